@@ -1,0 +1,1 @@
+"""Colours in tubes: drops are poured until each colour is by itself."""
