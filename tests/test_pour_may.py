@@ -70,7 +70,11 @@ class Ordinary(unittest.TestCase):
         for holds, tubes, (tube, other), then in poured_and_filled:
             before = rack_of(holds, tubes) + [pour(tube, other)]
             given = ask(before + everything(3))[len(before):]
-            self.assertEqual(given, ask(rack_of(holds, then) + everything(3))[4:], tubes)
+            filled = ask(rack_of(holds, then) + everything(3))[4:]
+            # They differ in how many pourings were done alone.
+            self.assertEqual((given[0][0], filled[0][0]), (1, 0))
+            self.assertEqual(given[0][1:], filled[0][1:], tubes)
+            self.assertEqual(given[1:], filled[1:], tubes)
 
     def test_one_behind_another(self):
         calls = rack_of(2, [[0, 1], [1, 0], []]) + [SORTED, pour(0, 2), pour(1, 0), pour(1, 2), SORTED]
