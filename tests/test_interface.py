@@ -149,19 +149,21 @@ class ManyCalls(unittest.TestCase):
             self.assertEqual(ask(calls), [plain.answer(call) for call in calls], calls)
 
     def test_they_are_answered_in_reasonable_time(self):
-        for tubes, expected in (
-            # 300 racks, and 301; far more.
-            ([[2, 0, 1, 3], [], [2, 0, 1, 3], [0, 1, 1, 2], []], [9, 9, 300, 0]),
-            ([[0, 3, 3, 2], [], [0, 3, 1, 1], [], [2, 0, 1, 3]], [-9] * 4),
-            ([[0, 1, 2, 3], [1, 2, 3, 0], [2, 3, 0, 1], [], []], [-9] * 4),
+        for holds, tubes, expected in (
+            # 299, 300, 301 and 302 racks; far more.
+            (3, [[0, 0, 1], [], [2, 3, 1], [], [0, 3, 2]], [6, 6, 299, 0]),
+            (4, [[2, 0, 1, 3], [], [2, 0, 1, 3], [0, 1, 1, 2], []], [9, 9, 300, 0]),
+            (4, [[0, 3, 3, 2], [], [0, 3, 1, 1], [], [2, 0, 1, 3]], [-9] * 4),
+            (3, [[0, 2, 3], [], [], [0, 2, 1], [0, 2, 3]], [-9] * 4),
+            (4, [[0, 1, 2, 3], [1, 2, 3, 0], [2, 3, 0, 1], [], []], [-9] * 4),
         ):
             asked = [FEWEST, PLAN, REACH, lost(0, 1)]
-            once = ask(rack_of(4, tubes) + asked)[6:]
-            self.assertEqual(once, [PlainRack(4, tubes).answer(call) for call in asked])
+            once = ask(rack_of(holds, tubes) + asked)[6:]
+            self.assertEqual(once, [PlainRack(holds, tubes).answer(call) for call in asked])
             numbers = [answer if isinstance(answer, int) else answer[0] for answer in once]
             self.assertEqual(numbers, expected)
             begun = time.monotonic()
-            given = ask(rack_of(4, tubes) + asked * 18)
+            given = ask(rack_of(holds, tubes) + asked * 18)
             self.assertLess(time.monotonic() - begun, 20)
             self.assertEqual(given[6:], once * 18)
 
